@@ -1,0 +1,1 @@
+"""Windowada: a small Ada compiled for a processor with register windows."""
