@@ -60,7 +60,7 @@ def check_call(context, subprogram, arguments, place):
             checked.append(check_kind(context, argument, mark.kind))
         else:
             checked.append(_check_changed_argument(context, argument, mark.kind))
-    hops = context.subprogram().level - subprogram.level + 1
+    hops = context.inner().level - subprogram.level + 1
     return ("call", subprogram.number, hops, tuple(checked), place)
 
 

@@ -63,7 +63,7 @@ def _check_exit(context, condition, place):
 
 def _check_return(context, result, place):
     """Returns the checked form of a return statement."""
-    mark = context.subprogram().result
+    mark = context.inner().result
     if (result is None) != (mark is None):
         raise Misplaced("a function returns a value, and nothing else does", place)
     if result is None:

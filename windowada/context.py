@@ -53,7 +53,7 @@ class Context:
         self._exceptions.append(name)
         return Signal(len(self._exceptions) - 1)
 
-    def subprogram(self):
+    def inner(self):
         """Returns the innermost subprogram."""
         return self._around[-1].subprogram
 
@@ -105,20 +105,20 @@ class Context:
 
     def declare_variable(self, name, mark, writable, place):
         """Adds the name of one more variable of the innermost subprogram and returns its number."""
-        inner = self._around[-1]
-        number = len(inner.marks)
-        inner.marks.append(mark)
-        inner.many += mark.size()
-        if inner.many > MOST_VARIABLES:
+        around = self._around[-1]
+        number = len(around.marks)
+        around.marks.append(mark)
+        around.many += mark.size()
+        if around.many > MOST_VARIABLES:
             raise TooLarge("a subprogram has too many variables", place)
-        subprogram = inner.subprogram
+        subprogram = around.subprogram
         variable = Variable(subprogram.number, subprogram.level, number, mark, writable)
         self.declare(name, variable, place)
         return number
 
     def use(self, variable):
         """Notes a use of a variable, and returns the number of static links to its activation."""
-        subprogram = self.subprogram()
+        subprogram = self.inner()
         if variable.owner != subprogram.number:
             self._around[variable.level - 1].shared[variable.number] = True
         return subprogram.level - variable.level
@@ -128,7 +128,7 @@ class Context:
         number = len(self._subprograms)
         if number == MOST_SUBPROGRAMS:
             raise TooLarge("there are too many subprograms", place)
-        parent = self.subprogram().number if self._around != [] else -1
+        parent = self.inner().number if self._around != [] else -1
         subprogram = Subprogram(number, parent, len(self._around) + 1, place, parameters, result)
         self._subprograms.append(subprogram)
         return subprogram

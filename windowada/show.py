@@ -67,12 +67,8 @@ def _may_stand_left(operator, left):
 
 
 def _group_of(expression):
-    """Returns the group of an operator; other expressions bind closer than all operators."""
-    if expression[0] == "binary":
-        return GROUPS[expression[1]]
-    if expression[0] == "unary":
-        return UNARY_GROUP
-    return UNARY_GROUP + 1
+    """Returns the group of an operator with two operands; other expressions bind closer than all of these."""
+    return GROUPS[expression[1]] if expression[0] == "binary" else UNARY_GROUP
 
 
 # The following functions return the lines of a form as pairs (steps of the margin, text).
