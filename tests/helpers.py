@@ -23,6 +23,21 @@ def strip_places(tree):
     return tuple(parts)
 
 
+def with_own_places(tree):
+    """Returns a tree in which each node has a place of its own."""
+    used = [0]
+
+    def walk(part):
+        if not isinstance(part, tuple) or is_pair(part):
+            return part
+        if len(part) > 1 and is_pair(part[-1]) and not is_pair(part[0]):
+            used[0] += 1
+            return (*[walk(inner) for inner in part[:-1]], (used[0] // 7 + 1, used[0]))
+        return tuple(walk(inner) for inner in part)
+
+    return walk(tree)
+
+
 def run(text, inputs=(), fuel=100000):
     """Returns the result of the run of a text."""
     return run_source(check(parse(text)), list(inputs), fuel=fuel)
