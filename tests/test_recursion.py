@@ -3,10 +3,14 @@
 import sys
 import unittest
 
+from windowada.assign import assign
 from windowada.checkdecl import check
 from windowada.declarations import parse
 from windowada.expressions import depth, parse_expression
+from windowada.improve import improve
+from windowada.lower import lower
 from windowada.runcall import run_source
+from windowada.runner import run_module
 from windowada.show import show, show_expression
 
 LIMIT = 350
@@ -59,6 +63,7 @@ class RecursionTest(unittest.TestCase):
         tree = parse(deepest_program(inner))
         self.assertLess(deepest(check, tree), LIMIT)
         self.assertLess(deepest(run_source, check(tree), [], fuel=1000), LIMIT)
+        self.assertLess(deepest(lower, check(tree)), LIMIT)
 
     def test_expressions(self):
         self.assertLess(deepest(parse_expression, EXPRESSION), LIMIT)
@@ -84,6 +89,11 @@ class RecursionTest(unittest.TestCase):
             program = check(parse(text))
             self.assertEqual(run_source(program, [], fuel=1000), ((("put", 7),), ("normal",)))
             self.assertLess(deepest(run_source, program, [], fuel=1000), LIMIT)
+            module = lower(program)
+            self.assertLess(deepest(lower, program), LIMIT)
+            for function, *arguments in ((improve, module), (assign, module.units[0]), (assign, module.units[1])):
+                self.assertLess(deepest(function, *arguments), LIMIT)
+            self.assertLess(deepest(run_module, module, [], fuel=1000), LIMIT)
 
     def test_texts_that_are_too_deep_or_no_program(self):
         for text in (
