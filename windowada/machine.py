@@ -1,12 +1,11 @@
 """The machine that runs intermediate code. A layout tells where the registers of a unit stand."""
 
+from windowada.alu import compute
 from windowada.code import region_of
 from windowada.outcome import (
     CONSTRAINT, DEPTH_LIMIT, END, EXHAUSTED, FAULT, NORMAL, STORAGE, Events, Fuel, NoInput, OutOfFuel,
 )
-from windowada.words import DivisionByZero, Overflow, absolute, arithmetic, compare, negate
-
-SIGNS = {"add": "+", "sub": "-", "mul": "*", "div": "/", "mod": "mod", "rem": "rem", "less": "<", "equal": "="}
+from windowada.words import DivisionByZero, Overflow, absolute, negate
 
 
 class Layout:
@@ -146,7 +145,7 @@ def _do_arithmetic(machine, activation, instruction):
     """Does an operator with two operands."""
     name, target, left, right, place = instruction
     try:
-        result = arithmetic(SIGNS[name], activation.value(left), activation.value(right))
+        result = compute(name, activation.value(left), activation.value(right))
     except (Overflow, DivisionByZero):
         machine.raise_exception(CONSTRAINT, place)
         return
@@ -156,7 +155,7 @@ def _do_arithmetic(machine, activation, instruction):
 def _do_compare(_machine, activation, instruction):
     """Does a less or an equal."""
     name, target, left, right = instruction
-    activation.write(target, int(compare(SIGNS[name], activation.value(left), activation.value(right))))
+    activation.write(target, compute(name, activation.value(left), activation.value(right)))
 
 
 def _do_check(machine, activation, instruction):
