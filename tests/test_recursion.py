@@ -4,9 +4,11 @@ import sys
 import unittest
 
 from windowada.assign import assign
+from windowada.build import build
 from windowada.checkdecl import check
 from windowada.declarations import parse
 from windowada.expressions import depth, parse_expression
+from windowada.house import run_text
 from windowada.improve import improve
 from windowada.lower import lower
 from windowada.runcall import run_source
@@ -94,6 +96,8 @@ class RecursionTest(unittest.TestCase):
             for function, *arguments in ((improve, module), (assign, module.units[0]), (assign, module.units[1])):
                 self.assertLess(deepest(function, *arguments), LIMIT)
             self.assertLess(deepest(run_module, module, [], fuel=1000), LIMIT)
+            self.assertLess(deepest(build, text), LIMIT)
+            self.assertLess(deepest(run_text, text, [], fuel=1000, windows=3), LIMIT)
 
     def test_texts_that_are_too_deep_or_no_program(self):
         for text in (

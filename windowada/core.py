@@ -4,16 +4,8 @@ from windowada.alu import Fault, compute, high_word, low_word
 from windowada.outcome import (
     CONSTRAINT, DEPTH_LIMIT, END, EXHAUSTED, FAULT, NORMAL, STOPPED, STORAGE, Events, Fuel, NoInput, OutOfFuel,
 )
+from windowada.roles import CALLED, NUMBER, PLACE, SAVED, STACK
 from windowada.words import DivisionByZero, Overflow, fits
-
-# The stack pointer at the start is so far below the end of the memory that the first window can be saved.
-STACK = 14
-SAVED = 16
-
-# The address of a call, and where an entry finds the exception.
-CALLED = 15
-NUMBER = 5
-PLACE = 6
 
 
 class Core:
@@ -33,7 +25,7 @@ class Core:
         self.ending = None
         self.address = 0
         self.following = 0
-        self.in_handler = False
+        self.handling = False
         self.deepest = 0
         self._instructions = instructions
         self._handlers = handlers
@@ -44,6 +36,7 @@ class Core:
         self.events = Events(inputs)
         self.fuel = Fuel(fuel)
         self._steps = steps
+        # The save area of the first window ends with the memory.
         self.windows.write(STACK, len(self.memory) - SAVED)
         while self.ending is None:
             self._step()
@@ -141,12 +134,12 @@ class Core:
 
     def _handle(self, instructions):
         """Does the instructions of a trap handler, the last of which is a retry."""
-        self.in_handler = True
+        self.handling = True
         for instruction in instructions:
             self._do(instruction)
             if self.ending is not None:
                 return
-        self.in_handler = False
+        self.handling = False
 
 
 def _do_halt(core, _instruction):
@@ -224,7 +217,7 @@ def _do_save(core, instruction):
         core.ending = FAULT
     elif core.shift_down():
         core.windows.write(target, word)
-        if not core.in_handler:
+        if not core.handling:
             core.deepest = max(core.deepest, core.windows.depth)
 
 
@@ -289,7 +282,7 @@ def _do_above(core, instruction):
 
 def _do_bar(core, instruction):
     """Does a bar, which only a handler may do."""
-    if core.in_handler:
+    if core.handling:
         core.windows.write(instruction[1], core.windows.barred)
     else:
         core.ending = FAULT
@@ -297,7 +290,7 @@ def _do_bar(core, instruction):
 
 def _do_setbar(core, instruction):
     """Does a setbar, which only a handler may do."""
-    if core.in_handler:
+    if core.handling:
         core.windows.set_bar(core.value(instruction[1]))
     else:
         core.ending = FAULT
@@ -305,7 +298,7 @@ def _do_setbar(core, instruction):
 
 def _do_retry(core, _instruction):
     """Does a retry, which only a handler may do."""
-    if core.in_handler:
+    if core.handling:
         core.following = core.windows.leave_trap()
     else:
         core.ending = FAULT

@@ -1,8 +1,9 @@
 """From the code of a unit to the instructions of the processor."""
 
 from windowada.code import RAISING
-from windowada.listing import BASE, HEAD, INS, LEFT, LINK, NUMBER, OUTS, PLACE, RIGHT, SAVED, STACK, ZERO, Listing
+from windowada.listing import BASE, HEAD, LEFT, LINK, RIGHT, ZERO, Listing
 from windowada.liveness import live
+from windowada.roles import FIRST_IN, FIRST_OUT, NUMBER, PLACE, SAVED, STACK
 
 
 def list_unit(unit, assignment):
@@ -140,14 +141,14 @@ def _list_call(listing, instruction):
     """Adds a call: the arguments, the static link, the call itself, and the results."""
     _, unit, hops, arguments, results, place = instruction
     for at, operand in enumerate(arguments):
-        listing.bring(operand, OUTS + at)
+        listing.bring(operand, FIRST_OUT + at)
     base = _reach(listing, hops, LINK)
     if base != LINK:
         listing.emit(("add", LINK, base, ("int", 0)))
     listing.note_place(place)
     listing.emit(("call", unit))
     for at, number in enumerate(results):
-        listing.put_away(number, OUTS + at)
+        listing.put_away(number, FIRST_OUT + at)
 
 
 def _list_return(listing, instruction):
@@ -155,11 +156,11 @@ def _list_return(listing, instruction):
     values = instruction[1]
     last = len(values) - 1
     for at in range(last):
-        listing.bring(values[at], OUTS + at)
+        listing.bring(values[at], FIRST_OUT + at)
     if values != ():
-        listing.bring(values[last], INS + last)
+        listing.bring(values[last], FIRST_IN + last)
     for at in range(last):
-        listing.emit(("add", INS + at, OUTS + at, ("int", 0)))
+        listing.emit(("add", FIRST_IN + at, FIRST_OUT + at, ("int", 0)))
     listing.emit(("restore",))
     listing.emit(("back",))
 

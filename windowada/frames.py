@@ -30,13 +30,14 @@ class Run:
 class Frame:
     """An activation of a subprogram.
 
-    link is the activation of the subprogram around it (the static link), and depth counts the callers. words
-    has a word for each variable, for an array the list of its elements. caught is what raise without a name
-    raises: the number and the place of an exception. result is what a function returned.
+    common is what it has in common with the other ones. link is the activation of the subprogram around it (the
+    static link), and depth counts the callers. words has a word for each variable, for an array the list of its
+    elements. caught is what raise without a name raises: the number and the place of an exception. result is what
+    a function returned.
     """
 
     def __init__(self, run, subprogram, link, depth, words):
-        self.run = run
+        self.common = run
         self.subprogram = subprogram
         self.link = link
         self.depth = depth

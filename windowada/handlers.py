@@ -1,11 +1,7 @@
 """The trap handlers."""
 
 from windowada.encode import encode
-
-# The registers of a window that are saved, and its stack pointer.
-FIRST_SAVED = 16
-SAVED = 16
-STACK = 14
+from windowada.roles import FIRST_LOCAL, SAVED, STACK
 
 
 def trap_code(windows):
@@ -32,4 +28,4 @@ def _fill(windows):
 
 def _moves(name):
     """Returns the loads or stores between the registers that are saved and the save area."""
-    return [(name, FIRST_SAVED + at, STACK, ("int", at)) for at in range(SAVED)]
+    return [(name, FIRST_LOCAL + at, STACK, ("int", at)) for at in range(SAVED)]

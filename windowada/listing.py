@@ -1,27 +1,18 @@
 """The processor's instructions of a unit while they are made, and the places of its registers."""
 
 from windowada.moves import constant, is_short
+from windowada.roles import FIRST_IN, FIRST_LOCAL, STACK
 
-# Register 0 is always 0. Registers 2, 5 and 6 bring a static link to a called unit, and an exception to an entry.
+# Register 0 is always 0, and register 2 brings its static link to a called unit.
 ZERO = 0
 LINK = 2
-NUMBER = 5
-PLACE = 6
-# Outs and ins, where arguments and results are passed.
-OUTS = 8
-STACK = 14
-INS = 24
 
 # What is needed within one instruction of the code stands here; nothing else uses these registers.
 LEFT = 1
 RIGHT = 3
 BASE = 4
 
-# The first registers of the places that are registers.
-FIRST = {"local": 16, "in": 24}
-
-# The frame of an activation: the words for saved registers, the static link, and then the cells and the slots.
-SAVED = 16
+# The words of a frame ahead of its cells: those for saved registers and the static link. The slots are the last ones.
 HEAD = 17
 
 
@@ -68,7 +59,7 @@ class Listing:
         if not self.has_place(number):
             return ZERO
         kind, at = self._assignment[number]
-        return LEFT if kind == "slot" else FIRST[kind] + at
+        return LEFT if kind == "slot" else _number_of(kind, at)
 
     def fetch(self, operand, spare):
         """Returns the processor's register with the value of an operand: the spare one, if it was in none."""
@@ -82,7 +73,7 @@ class Listing:
         if kind == "slot":
             self.emit(("load", spare, STACK, self._slot(at)))
             return spare
-        return FIRST[kind] + at
+        return _number_of(kind, at)
 
     def source(self, operand, spare):
         """Returns the operand of the processor that has the value of an operand of the code."""
@@ -103,9 +94,14 @@ class Listing:
         kind, at = self._assignment[number]
         if kind == "slot":
             self.emit(("store", holder, STACK, self._slot(at)))
-        elif holder != FIRST[kind] + at:
-            self.emit(("add", FIRST[kind] + at, holder, ("int", 0)))
+        elif holder != _number_of(kind, at):
+            self.emit(("add", _number_of(kind, at), holder, ("int", 0)))
 
     def _slot(self, at):
         """Returns the distance of a slot from the stack pointer, as an operand."""
         return ("int", HEAD + self.unit.cells + at)
+
+
+def _number_of(kind, at):
+    """Returns the number of the processor's register that is a local or an in."""
+    return at + (FIRST_LOCAL if kind == "local" else FIRST_IN)

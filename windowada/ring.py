@@ -1,9 +1,11 @@
 """A window file that holds the youngest windows and has the older ones in the memory."""
 
 from windowada.alu import Fault
+from windowada.roles import SAVED
+from windowada.views import empty_view, locals_and_ins, view_above, view_below
 
-# How many words of a window are saved: its registers 16 to 31.
-SAVED = 16
+# Where the stack pointer of the window above stands among the registers that are saved of a window.
+POINTER = 14
 
 
 class Ring:
@@ -16,8 +18,8 @@ class Ring:
         self.resident = 1
         self._memory = memory
         self._most = windows - 1
-        # As in a Tower, but only for those windows above the current one that are held.
-        self._view = [0] * 32
+        self._view = empty_view()
+        # The registers 16 to 31 of those windows above the current one that are held, the oldest window first.
         self._above = []
 
     def read(self, number):
@@ -30,11 +32,11 @@ class Ring:
             self._view[number] = word
 
     def shift_down(self):
-        """Makes a new window. The oldest one is spilled first, if no more are held than may be."""
+        """Makes a new window. The oldest one is spilled first, if no more may be held."""
         if self.resident == self._most:
             self._spill()
-        self._above.append(self._view[16:])
-        self._view[8:] = [0] * 16 + self._view[8:16]
+        self._above.append(locals_and_ins(self._view))
+        self._view = view_below(self._view)
         self.depth += 1
         self.resident += 1
 
@@ -42,7 +44,7 @@ class Ring:
         """Goes back to the window above, which is filled first if it is not held."""
         if self.resident == 1:
             self._fill()
-        self._view[8:] = self._view[24:] + self._above.pop()
+        self._view = view_above(self._view, self._above.pop())
         self.depth -= 1
         self.resident -= 1
 
@@ -56,16 +58,15 @@ class Ring:
 
     def _spill(self):
         """Brings the oldest window that is held to its save area."""
-        # The window below the oldest one has its stack pointer as register 30.
-        below = self._above[1] if self.resident > 2 else self._view[16:]
-        start = self._save_area(below[14])
+        below = self._above[1] if self.resident > 2 else locals_and_ins(self._view)
+        start = self._save_area(below[POINTER])
         self._memory[start:start + SAVED] = self._above.pop(0)
         self.spills += 1
         self.resident -= 1
 
     def _fill(self):
         """Brings the window above the current one back from its save area."""
-        start = self._save_area(self._view[30])
+        start = self._save_area(locals_and_ins(self._view)[POINTER])
         self._above.append(self._memory[start:start + SAVED])
         self.fills += 1
         self.resident += 1

@@ -28,7 +28,7 @@ def _run_main(run):
 def call_subprogram(frame, call):
     """Makes a call, a checked expression or statement, and returns the result of the function."""
     _, number, hops, arguments, place = call
-    subprogram = frame.run.program.subprograms[number]
+    subprogram = frame.common.program.subprograms[number]
     words = []
     copies = []
     for (mode, mark), argument in zip(subprogram.parameters, arguments):
@@ -41,7 +41,7 @@ def call_subprogram(frame, call):
             words.append(mark.start_word() if mode == "out" else checked_word(values[index], mark, at))
     if frame.depth == DEPTH_LIMIT:
         raise Raised(STORAGE, place)
-    called = _activate(frame.run, subprogram, frame.outward(hops), frame.depth + 1, words)
+    called = _activate(frame.common, subprogram, frame.outward(hops), frame.depth + 1, words)
     for parameter, values, index, target_mark, at in copies:
         values[index] = checked_word(called.words[parameter], target_mark, at)
     return called.result

@@ -23,7 +23,7 @@ def evaluate(frame, expression):
         case ("element", _, _, _, _):
             values, at, _ = locate(frame, expression)
             return values[at]
-    call = frame.run.call
+    call = frame.common.call
     return call(frame, expression)
 
 

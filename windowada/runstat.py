@@ -50,7 +50,7 @@ def _find_handler(handlers, number):
 def run_statements(frame, statements):
     """Does some statements and returns how they end."""
     for statement in statements:
-        frame.run.fuel.tick()
+        frame.common.fuel.tick()
         action = ACTIONS[statement[0]]
         ending = action(frame, statement)
         if ending != ONWARD:
@@ -73,7 +73,7 @@ def _run_assign(frame, statement):
 
 def _run_put(frame, statement):
     """Does a put statement."""
-    frame.run.events.put(evaluate(frame, statement[1]))
+    frame.common.events.put(evaluate(frame, statement[1]))
     return ONWARD
 
 
@@ -82,7 +82,7 @@ def _run_get(frame, statement):
     _, target, place = statement
     values, at, mark = locate(frame, target)
     try:
-        word = frame.run.events.get()
+        word = frame.common.events.get()
     except NoInput:
         raise Raised(END, place) from None
     values[at] = checked_word(word, mark, target[-1])
@@ -91,7 +91,7 @@ def _run_get(frame, statement):
 
 def _run_call(frame, statement):
     """Does a call statement."""
-    call = frame.run.call
+    call = frame.common.call
     call(frame, statement)
     return ONWARD
 
@@ -107,7 +107,7 @@ def _run_if(frame, statement):
 
 def _run_turn(frame, statements):
     """Does one turn of a loop and returns how it ends."""
-    frame.run.fuel.tick()
+    frame.common.fuel.tick()
     return run_statements(frame, statements)
 
 

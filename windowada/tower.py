@@ -1,5 +1,7 @@
 """A window file with any number of windows."""
 
+from windowada.views import empty_view, locals_and_ins, view_above, view_below
+
 
 class Tower:
     """The globals, the current window and those above it."""
@@ -8,9 +10,8 @@ class Tower:
         self.depth = 0
         self.spills = 0
         self.fills = 0
-        # The registers in view, and for each window above the current one, the first one first, the registers
-        # 16 to 31 of its own view. The outs of a window are the ins of the one below it.
-        self._view = [0] * 32
+        self._view = empty_view()
+        # The registers 16 to 31 of the windows above the current one, the oldest window first.
         self._above = []
 
     def read(self, number):
@@ -24,13 +25,13 @@ class Tower:
 
     def shift_down(self):
         """Makes a new window."""
-        self._above.append(self._view[16:])
-        self._view[8:] = [0] * 16 + self._view[8:16]
+        self._above.append(locals_and_ins(self._view))
+        self._view = view_below(self._view)
         self.depth += 1
 
     def shift_up(self):
         """Goes back to the window above."""
-        self._view[8:] = self._view[24:] + self._above.pop()
+        self._view = view_above(self._view, self._above.pop())
         self.depth -= 1
 
     def blocked_down(self):
