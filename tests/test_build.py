@@ -2,6 +2,7 @@
 
 import random
 import unittest
+import unittest.mock
 
 from tests.helpers import SourceCase, marked
 from tests.images import ImageMixin, any_assignment, steps_for
@@ -304,6 +305,24 @@ class RunsTest(unittest.TestCase):
                 self.assertEqual((result, counts), (processor.run(given, fuel=fuel, steps=steps_for(image, fuel)), processor.counts))
                 self.assertEqual(result, expected)
                 self.assertIs(type(counts), tuple)
+
+    def test_steps_that_are_given(self):
+        """The count of point [94]."""
+        given = []
+
+        class Noting(Processor):
+            def run(self, inputs, *, fuel, steps):
+                given.append((inputs, fuel, steps))
+                return super().run(inputs, fuel=fuel, steps=steps)
+
+        for text, inputs in MORE.values():
+            words = len(build(text).words)
+            for fuel in (0, 1, 7, 100):
+                with unittest.mock.patch("windowada.house.Processor", Noting):
+                    run_text(text, list(inputs), fuel=fuel, windows=4)
+                    run_counts(text, list(inputs), fuel=fuel, windows=4)
+                self.assertEqual(given, [(list(inputs), fuel, 60 * (words + 60) * (fuel + 2))] * 2)
+                given.clear()
 
     def test_deepest(self):
         """The greatest depth of an activation."""

@@ -6,7 +6,7 @@ import unittest
 from tests.images import ImageMixin, any_assignment, steps_for
 from tests.modules import MAX, MIN, WORDS, main, make_module, module, parts, unit
 from tests.programs import make_program
-from tests.refcpu import instruction_of, run_cpu
+from tests.refcpu import Cpu, instruction_of, run_cpu
 from windowada.assign import assign
 from windowada.checkdecl import check
 from windowada.code import Unit
@@ -29,6 +29,21 @@ BIG = (16383, 16384, -16384, -16385, 2048, 65536, 1000000, -1000000, MIN, MAX, M
 
 def puts(*words):
     return tuple(("put", word) for word in words)
+
+
+class CallCpu(Cpu):
+    """Notes the unit, the static link and the arguments of each call."""
+
+    many = (0, 1, 2, 1)
+
+    def __init__(self, image):
+        super().__init__(image)
+        self.noted = []
+
+    def do_call(self, at, n):
+        number = self.image.starts.index(n)
+        self.noted.append([number, self.read(2), *[self.read(8 + argument) for argument in range(self.many[number])]])
+        return super().do_call(at, n)
 
 
 class LinkTest(ImageMixin, unittest.TestCase):
@@ -92,6 +107,43 @@ class LinkTest(ImageMixin, unittest.TestCase):
             image = self.body(code, places, *[number + 5 for number, place in enumerate(places) if place], cells=cells)
             self.assertEqual(instruction_of(image.words[2]), ("save", 14, 14, ("int", -size)))
             self.assertEqual(image.memory, 11 * size + 32)
+
+    def test_words_of_frames(self):
+        """The static link at 16, the cells from 17 on, and then the slots; the frame of the caller follows."""
+        called = unit((TICK, ("store", 0, 1, 1, I[0], I[70]), ("move", 0, I[71]), ("move", 1, I[72]), ("put", R[0]), ("put", R[1]), ("raise", 1, 0)), parent=0, cells=3)
+        start = unit((TICK, ("store", 0, 0, 1, I[0], I[60]), ("move", 0, I[61]), ("call", 1, 0, (), (), 0), ("put", R[0]), END), cells=2, registers=1)
+        made = module(start, called)
+        image = build_image(made, ((S[4],), (S[0], S[2], None, None)))
+        cpu = Cpu(image)
+        self.assertEqual(cpu.run([], 9, 999), (puts(71, 72), ("raised", "program_error", 1, 1)))
+        size, its_size = 17 + 2 + 5, 17 + 3 + 3
+        self.assertEqual(image.memory, 11 * size + 32)
+        top = image.memory - 16 - size
+        self.assertEqual(cpu.memory[top + 17:top + size], [60, 0, 0, 0, 0, 0, 61])
+        below = top - its_size
+        self.assertEqual(cpu.memory[below + 16:top], [top, 0, 70, 0, 71, 0, 72])
+        self.assertEqual(cpu.memory[below:below + 16] + cpu.memory[top:top + 16], [0] * 32)
+        self.assertEqual([word for word in cpu.memory[:below] + cpu.memory[-16:] if word], [])
+
+    def test_how_units_are_called(self):
+        """With the arguments in the ins, the static link in register 2, and the address of the call in register 31."""
+        inner = unit((TICK, ("put", R[0]), ("branch", R[1], 5), ("sub", 0, R[0], I[1], 0), ("call", 2, 1, (R[0], I[1]), (0,), 1), ("return", (R[0],))),
+                     parent=1, arguments=2, results=1, registers=2)
+        middle = unit((TICK, ("call", 2, 0, (R[0], I[0]), (0,), 2), ("put", R[0]), ("call", 3, 1, (I[8],), (), 3), END), parent=0, arguments=1, registers=1)
+        other = unit((TICK, ("put", R[0]), END), parent=0, arguments=1, registers=1)
+        made = module(unit((TICK, ("call", 1, 0, (I[5],), (), 0), END)), middle, inner, other)
+        image = self.look(made, [NONE, (N[0],), (N[0], N[1]), (N[0],)], puts(5, 4, 4, 8))
+        cpu = CallCpu(image)
+        cpu.run([], 99, 9999)
+        main_unit, first, second, third, fourth = cpu.noted
+        self.assertEqual([noted[0] for noted in cpu.noted], [0, 1, 2, 2, 3])
+        self.assertEqual([noted[2:] for noted in cpu.noted[1:]], [[5], [5, 0], [4, 1], [8]])
+        frames = [image.memory - 16 - 17 * turn for turn in range(1, 5)]
+        self.assertEqual(first[1], frames[0])
+        self.assertEqual(second[1], frames[1])
+        self.assertEqual(third[1], frames[1])
+        self.assertEqual(fourth[1], frames[0])
+        self.assertEqual(main_unit[2:], [])
 
     # Places
 

@@ -214,8 +214,8 @@ class EndingsTest(ProcessorCase):
     def test_a_trap_comes_before_the_sum_of_a_save(self):
         code = (set_to(14, 100), SAVE, set_to(14, 60), ("high", 1, 1048575), ("low", 1, 1, 2047), ("save", 2, 1, ("int", 1)), ("halt",))
         made = image(code, memory=200)
-        for trapping, spills in ((True, 1), (False, 0)):
-            processor = Processor(made, windows=3, trapping=trapping)
+        for more, spills in (({}, 1), ({"trapping": True}, 1), ({"trapping": False}, 0)):
+            processor = Processor(made, windows=3, **more)
             self.assertEqual(processor.run([], fuel=9, steps=90), ((), FAULT))
             self.assertEqual(processor.counts, (spills, 0, 1))
 
